@@ -172,6 +172,15 @@ func (s decoderState) hear(b byte, told []int64) (decoderState, []int64) {
 	return decoderState{}, append(told, s.whole())
 }
 
+// tell goes on by a byte, and gives each character that it tells to who hears.
+func (s *decoderState) tell(b byte, heard func(c int64)) {
+	then, told := s.hear(b, nil)
+	*s = then
+	for _, c := range told {
+		heard(c)
+	}
+}
+
 func hearFirst(b byte, told []int64) (decoderState, []int64) {
 	switch {
 	case b < behindFirst:
